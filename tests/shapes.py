@@ -58,7 +58,7 @@ HOLED = [
     ["##.", "#.#", "###"],
     ["###", "#.#", ".##"],
     ["###", "#.#", "##."],
-    # The two places of each hole touch at a corner only.
+    # Two holes that touch at a corner only.
     ["####", "#.##", "##.#", "####"],
 ]
 
