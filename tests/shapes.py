@@ -17,6 +17,8 @@ LAID = [
     ["..##", "..##", "####", "####"],
     ["######", ".....#", "######", "#.....", "######", "....##"],
     ["#.#.#.", "######", ".#.#.#"],
+    ["####", "#...", "####", "...#", "####"],
+    [".##..", ".##..", "#####", "#####", "..##."],
     ["######", "#....#", "#.##.#", "#.#..#", "#.####", "......"],
     ["######", "######", "######", "######", "######", "######"],
 ]
@@ -122,17 +124,21 @@ def grown_floors(many, seed):
     return floors
 
 
-def layings_of(cells):
-    """All layings of some cells, that stand in order, as they are told."""
+def each_laying(cells):
+    """One by one all layings of some cells, that stand in order, as they are told."""
     if not cells:
-        return [[]]
+        yield []
+        return
     x, y = cells[0]
-    found = []
     for other in [(x + 1, y), (x, y + 1)]:
         if other in cells:
             rest = [cell for cell in cells if cell not in ((x, y), other)]
-            found += [[((x, y), other)] + laying for laying in layings_of(rest)]
-    return found
+            for laying in each_laying(rest):
+                yield [((x, y), other)] + laying
+
+
+def layings_of(cells):
+    return list(each_laying(cells))
 
 
 def is_told_laying(rows, pieces):
@@ -146,6 +152,79 @@ def is_told_laying(rows, pieces):
         and all(other in ((x + 1, y), (x, y + 1)) for (x, y), other in pieces)
         and firsts == sorted(firsts, key=lambda cell: (cell[1], cell[0]))
     )
+
+
+def all_layings(rows):
+    return layings_of(cells_of(rows))
+
+
+def sides_of(rows):
+    """All sides of cells, to the right or down, each with the places on the left hand and on the right."""
+    cells = cells_of(rows)
+    sides = []
+    for x, y in itertools.product(range(7), repeat=2):
+        for other, left, right in [((x + 1, y), (x, y - 1), (x, y)), ((x, y + 1), (x, y), (x - 1, y))]:
+            if left in cells or right in cells:
+                sides.append(((x, y), other, left, right))
+    return sides
+
+
+def steps_of(rows, laying):
+    """The step of the height along each side, to the right or down, word by word as point 6 tells it."""
+    cells = cells_of(rows)
+    steps = {}
+    for one, other, left, right in sides_of(rows):
+        rises = (left in cells and sum(left) % 2 == 0) or (right in cells and sum(right) % 2 == 1)
+        within = (left, right) in laying or (right, left) in laying
+        step = -3 if within else 1
+        steps[one, other] = step if rises else -step
+    return steps
+
+
+def plain_heights(rows, laying):
+    """The heights of a laying as it is told, found by going along sides until no corner is left out."""
+    steps = steps_of(rows, laying)
+    heights = {cells_of(rows)[0]: 0}
+    grown = True
+    while grown:
+        grown = False
+        for (one, other), step in steps.items():
+            if one in heights and other not in heights:
+                heights[other] = heights[one] + step
+                grown = True
+            elif other in heights and one not in heights:
+                heights[one] = heights[other] - step
+                grown = True
+    return heights
+
+
+def told_order(pieces):
+    """A laying as it is told, of pieces whose first cells stand first."""
+    return sorted(pieces, key=lambda piece: (piece[0][1], piece[0][0]))
+
+
+def plain_turns(laying):
+    """A dict from each corner of a turn, in order, to the laying behind it."""
+    turns = {}
+    for y, x in itertools.product(range(1, 6), repeat=2):
+        across = [((x - 1, y - 1), (x, y - 1)), ((x - 1, y), (x, y))]
+        down = [((x - 1, y - 1), (x - 1, y)), ((x, y - 1), (x, y))]
+        for there, behind in [(across, down), (down, across)]:
+            if all(piece in laying for piece in there):
+                turns[x, y] = told_order([piece for piece in laying if piece not in there] + behind)
+    return turns
+
+
+def turns_from(laying):
+    """The fewest turns from one laying to each that is come to, found by trying all of them."""
+    many = {tuple(laying): 0}
+    waiting = [laying]
+    for here in waiting:
+        for behind in plain_turns(here).values():
+            if tuple(behind) not in many:
+                many[tuple(behind)] = many[tuple(here)] + 1
+                waiting.append(behind)
+    return many
 
 
 def are_short(rows, short):
@@ -194,3 +273,21 @@ def no_places():
         (float("nan"), 0), (0, float("inf")), Stubborn(), (Stubborn(), 0), (0, Stubborn()), (Stubborn(), Stubborn()),
         Flatterer((0, 0)), (Flatterer(0), 0), (0, Flatterer(0)), (Flatterer(0), Flatterer(0)),
     ]
+
+
+def no_layings(rows):
+    """Things that are no laying of a floor, of which the first cell lies in one of the first rows or columns."""
+    laying = next(each_laying(cells_of(rows)))
+    one, other = laying[0]
+    rest = laying[1:]
+    true_or_false = [(bool(number) if number < 2 else number) for number in one]
+    broken = [
+        [], rest, laying + [laying[0]], [laying[0]] + laying, laying + [None], [None] + laying, rest + [None],
+        rest + [(one, one)], rest + [(one,)], rest + [(one, other, one)], rest + [[one, other]], rest + [()],
+        rest + [(one, (-1, -1))], rest + [(list(one), other)], rest + [(one, list(other))],
+        rest + [(tuple(float(number) for number in one), other)], rest + [(tuple(true_or_false), other)],
+        rest + [(one, Flatterer(other))], rest + [Flatterer((one, other))], rest + [(one, Stubborn())],
+        rest + [Stubborn()], rest + [one, other], [laying], (laying,), tuple(laying), set(laying), frozenset(laying),
+        dict(laying), iter(laying), str(laying), Flatterer(laying[0]), "\n".join(rows), rows,
+    ]
+    return no_places() + broken

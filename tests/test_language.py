@@ -1,6 +1,7 @@
 """The rules of ../shared/LANGUAGE.md that are quickly checked: files, imports, lengths, signs and warnings."""
 
 import ast
+import builtins
 import pathlib
 import unittest
 import warnings
@@ -13,8 +14,25 @@ INTERFACE = {
                "BadText"],
     "floors": ["Floor", "is_dark"],
     "layings": ["told_laying", "laid_or_short"],
+    "heights": ["heights_of", "is_heights", "laying_from"],
+    "turning": ["turns_of", "turned_at", "turns_apart", "way_between"],
+    "beneath": ["lower_of", "upper_of", "least_laying", "greatest_laying"],
+    "texts": ["shown_text", "read_text"],
+}
+ARGUMENTS = {
+    "is_dark": ["cell"], "told_laying": ["floor", "pieces"], "laid_or_short": ["floor"],
+    "heights_of": ["floor", "pieces"], "is_heights": ["floor", "numbers"], "laying_from": ["floor", "numbers"],
+    "turns_of": ["floor", "pieces"], "turned_at": ["floor", "pieces", "corner"],
+    "turns_apart": ["floor", "one", "other"], "way_between": ["floor", "one", "other"],
+    "lower_of": ["floor", "one", "other"], "upper_of": ["floor", "one", "other"],
+    "least_laying": ["floor"], "greatest_laying": ["floor"], "shown_text": ["floor", "pieces"], "read_text": ["text"],
 }
 FLOOR_METHODS = ["__init__", "rows", "has", "cells", "beside", "corners", "inner"]
+BUILTINS = """len range enumerate zip min max sum abs sorted reversed int str bool list tuple dict set isinstance ord repr any
+all divmod ValueError type""".split()
+METHODS = "append clear copy count get index insert items join keys pop remove replace reverse split update values".split()
+BARRED = """type typing enum Enum Generic Protocol ABC namedtuple NamedTuple TypedDict dataclass register mro elements open
+input law""".split()
 
 
 def tree_of(path):
@@ -59,6 +77,52 @@ class LanguageTest(unittest.TestCase):
         for name, wanted in INTERFACE.items():
             defined = [node.name for node in tree_of(PACKAGE / f"{name}.py").body if hasattr(node, "name")]
             self.assertEqual([one for one in wanted if one not in defined], [])
+
+    def test_the_arguments_have_the_names_that_are_listed(self):
+        for name, wanted in INTERFACE.items():
+            for node in tree_of(PACKAGE / f"{name}.py").body:
+                if getattr(node, "name", "") in ARGUMENTS and node.name in wanted:
+                    self.assertEqual([argument.arg for argument in node.args.args], ARGUMENTS[node.name])
+
+    def test_what_is_called_is_allowed(self):
+        own = [node.name for path in FILES for node in ast.walk(tree_of(path)) if hasattr(node, "name")]
+        for path in FILES:
+            for node in ast.walk(tree_of(path)):
+                if isinstance(node, ast.Call) and isinstance(node.func, ast.Attribute):
+                    self.assertIn(node.func.attr, METHODS + own, path.name)
+                elif isinstance(node, ast.Call):
+                    self.assertIn(node.func.id, BUILTINS + own, path.name)
+
+    def test_no_name_has_another_meaning(self):
+        for path in FILES:
+            tree = tree_of(path)
+            imports = [alias.name for node in tree.body if isinstance(node, ast.ImportFrom) for alias in node.names]
+            stored = [node.id for node in ast.walk(tree)
+                      if isinstance(node, ast.Name) and not isinstance(node.ctx, ast.Load)]
+            stored += [node.arg for node in ast.walk(tree) if isinstance(node, ast.arg)]
+            defined = [node.name for node in tree.body if hasattr(node, "name")]
+            for name in stored + defined:
+                self.assertNotIn(name, dir(builtins) + BARRED, path.name)
+            for name in stored:
+                self.assertNotIn(name, imports + defined, path.name)
+
+    def test_no_two_files_import_from_each_other(self):
+        reached = {path.stem: self.imported_by(path.stem) for path in FILES}
+        for _ in FILES:
+            reached = {name: known.union(*[reached[one] for one in known]) for name, known in reached.items()}
+        self.assertEqual([name for name, known in reached.items() if name in known], [])
+
+    def imported_by(self, name):
+        return {node.module.split(".")[1] for node in tree_of(PACKAGE / f"{name}.py").body
+                if isinstance(node, ast.ImportFrom) and node.module.startswith("turnfloor.")}
+
+    def test_each_import_is_used(self):
+        for path in FILES:
+            tree = tree_of(path)
+            used = [node.id for node in ast.walk(tree) if isinstance(node, ast.Name)]
+            for node in tree.body:
+                if isinstance(node, ast.ImportFrom):
+                    self.assertEqual([alias.name for alias in node.names if alias.name not in used], [], path.name)
 
     def test_floor_has_its_methods_in_its_own_body(self):
         floor = [node for node in tree_of(PACKAGE / "floors.py").body if getattr(node, "name", "") == "Floor"][0]
