@@ -28,11 +28,12 @@ ARGUMENTS = {
     "least_laying": ["floor"], "greatest_laying": ["floor"], "shown_text": ["floor", "pieces"], "read_text": ["text"],
 }
 FLOOR_METHODS = ["__init__", "rows", "has", "cells", "beside", "corners", "inner"]
-BUILTINS = """len range enumerate zip min max sum abs sorted reversed int str bool list tuple dict set isinstance ord repr any
-all divmod ValueError type""".split()
-METHODS = "append clear copy count get index insert items join keys pop remove replace reverse split update values".split()
-BARRED = """type typing enum Enum Generic Protocol ABC namedtuple NamedTuple TypedDict dataclass register mro elements open
-input law""".split()
+BUILTINS = """len range enumerate zip min max sum abs sorted reversed int str bool list tuple dict set isinstance ord
+repr any all divmod ValueError type""".split()
+METHODS = """append clear copy count get index insert items join keys pop remove replace reverse split update
+values""".split()
+BARRED = """type typing enum Enum Generic Protocol ABC namedtuple NamedTuple TypedDict dataclass register mro elements
+open input law""".split()
 
 
 def tree_of(path):

@@ -53,7 +53,8 @@ def told_of_layings(floor):
     told += [turned_at(floor, least, corner) for corner in turns_of(floor, least)]
     for laying in [least, greatest]:
         heights = heights_of(floor, laying)
-        told += [told_laying(floor, laying), heights, laying_from(floor, heights), *read_text(shown_text(floor, laying))]
+        told += [told_laying(floor, laying), heights, laying_from(floor, heights)]
+        told += read_text(shown_text(floor, laying))
     return told
 
 
@@ -160,7 +161,9 @@ class HandedInLayingsTest(unittest.TestCase):
 
     def asked(self, one, other):
         floor = Floor(self.ROWS)
-        told = [call(floor, laying) for call in [told_laying, heights_of, turns_of, shown_text] for laying in [one, other]]
+        told = []
+        for laying in [one, other]:
+            told += [call(floor, laying) for call in [told_laying, heights_of, turns_of, shown_text]]
         told += [call(floor, one, other) for call in [turns_apart, way_between, lower_of, upper_of]]
         return told + [turned_at(floor, one, (2, 1)), turned_at(floor, other, (1, 1))]
 

@@ -124,9 +124,9 @@ class ReadTest(TextCase):
                             self.refused(changed)
 
     def test_signs_that_do_not_answer_each_other(self):
-        for text in ["<>", ">>", "<<", "^\nv", "v\nv", "^\n^", ">v", "v<", "v", "^", "<", ">", "vv", "^^", ">.<", "v\n.\n^",
-                     ">>\n<<", "vv\nvv", "><\n<>", "v<\n^>", ">^", "><<", ">><", "><>", "><><>", "v\n^\n^", "v\nv\n^",
-                     "><\n^.", "v>\n^<", ">v\n^<", "v<\n>^", "^>\nv<"]:
+        for text in ["<>", ">>", "<<", "^\nv", "v\nv", "^\n^", ">v", "v<", "v", "^", "<", ">", "vv", "^^", ">.<",
+                     "v\n.\n^", ">>\n<<", "vv\nvv", "><\n<>", "v<\n^>", ">^", "><<", ">><", "><>", "><><>", "v\n^\n^",
+                     "v\nv\n^", "><\n^.", "v>\n^<", ">v\n^<", "v<\n>^", "^>\nv<"]:
             with self.subTest(text=text):
                 self.refused(text)
 
@@ -158,13 +158,14 @@ class ReadTest(TextCase):
 
     def test_line_ends_stand_between_the_rows_only(self):
         for text in ["><\n", "\n><", "v\n^\n", "v\n\n^", "v\r\n^", "v\r^", "v\x0b^", "v\x0c^", "v\x1c^", "v\x85^",
-                     "v\u2028^", "><\n\n><", "\n", "\n\n", "v^", "v\\n^", "><\n.", "><\n...", ">\n<", " ><", ">< ", "> <"]:
+                     "v\u2028^", "><\n\n><", "\n", "\n\n", "v^", "v\\n^", "><\n.", "><\n...", ">\n<", " ><", ">< ",
+                     "> <"]:
             with self.subTest(text=text):
                 self.refused(text)
 
     def test_other_signs(self):
-        for text in ["##", "#.", "#", "> <", "->", "()", "[]", "\u2192\u2190", "\uff1e\uff1c", "V\n^", "v\nA", "\u03bd\n^",
-                     "><\n##", "><\nxx", "><\n  ", "laying", "True", "None", "><\0", "\ud800", "0", "1"]:
+        for text in ["##", "#.", "#", "> <", "->", "()", "[]", "\u2192\u2190", "\uff1e\uff1c", "V\n^", "v\nA",
+                     "\u03bd\n^", "><\n##", "><\nxx", "><\n  ", "laying", "True", "None", "><\0", "\ud800", "0", "1"]:
             with self.subTest(text=text):
                 self.refused(text)
 

@@ -193,7 +193,8 @@ class TurnsApartTest(unittest.TestCase):
 
     def test_layings_of_large_floors(self):
         largest = list(each_laying(cells_of(LARGEST)))
-        for rows, one, other in large_floors() + [(LARGEST, largest[k], largest[-1 - 7 * k]) for k in range(0, 900, 60)]:
+        pairs = [(LARGEST, largest[k], largest[-1 - 7 * k]) for k in range(0, 900, 60)]
+        for rows, one, other in large_floors() + pairs:
             heights = plain_heights(rows, one)
             goal = plain_heights(rows, other)
             apart = sum(abs(heights[corner] - goal[corner]) for corner in heights)
